@@ -1,0 +1,1 @@
+"""Placetrade: letters that may change places where they stand side by side."""

@@ -1,0 +1,41 @@
+"""Values of every kind that the document names as "any value"."""
+
+from placetrade import errors
+from placetrade.trades import Trade
+
+
+def any_values():
+    """One list of values of all kinds, made anew for each call."""
+    return [
+        0, 1, -1, 2, 7, 21, 10 ** 30, -10 ** 30,
+        "", "0", "abc", True, False, None,
+        (), (0,), (0, 1), (True,), (False, True), (0, None), (-1,), ("0",), ((0, 1),), ((), ()),
+        [], [0], [0, 1], [(0, 1)], [[]],
+        {}, {0: 1}, {"a": (0,)}, {(0, 1): [2]},
+        Trade(2, ()), Trade(3, ((0, 1), (1, 2))), (Trade(1, ()),),
+        errors.BadTrade(), errors.BadPairs(0), errors.InvalidText(3), (errors.BadRow(),),
+    ]
+
+
+def is_integer(value):
+    """Tell whether a value is an integer as the document means it."""
+    return isinstance(value, int) and value is not True and value is not False
+
+
+def is_row(value, letters):
+    """Tell whether a value is a row of a trade with so many letters."""
+    if not isinstance(value, tuple) or len(value) > 20:
+        return False
+    for letter in value:
+        if not is_integer(letter) or letter < 0 or letter >= letters:
+            return False
+    return True
+
+
+def raised(called, *given):
+    """The error that a call raises, None if it returns."""
+    try:
+        called(*given)
+    except Exception as error:
+        return error
+    return None
