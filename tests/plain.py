@@ -77,3 +77,42 @@ def follow(trade, row, places):
             return None
         row = change(row, place)
     return row
+
+
+def least(trade, row):
+    """The least row of all that changes lead to."""
+    return min(distances(trade, row))
+
+
+def firsts(trade, row):
+    """All rows with which some row that is alike to a row begins."""
+    return {there[:length] for there in distances(trade, row) for length in range(len(row) + 1)}
+
+
+def lasts(trade, row):
+    """All rows with which some row that is alike to a row ends."""
+    return {there[length:] for there in distances(trade, row) for length in range(len(row) + 1)}
+
+
+def unlike(trade, rows):
+    """The least rows, ascending, of rows of which there are all alike ones."""
+    found, seen = [], set()
+    for row in sorted(rows):
+        if row not in seen:
+            found.append(row)
+            seen.update(distances(trade, row))
+    return found
+
+
+def may_all(trade, one, other):
+    """Tell whether each letter of one may change places with each of the other."""
+    return all(tuple(sorted(pair)) in trade.pairs for pair in product(one, other))
+
+
+def shuffled(source, trade, row):
+    """A row alike to a row, after many changes at places by chance."""
+    for _ in range(15 * len(row)):
+        place = source.randrange(len(row))
+        if place < len(row) - 1 and may(trade, row, place):
+            row = change(row, place)
+    return row

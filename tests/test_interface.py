@@ -2,20 +2,49 @@
 
 import inspect
 import pathlib
+import sys
 import unittest
 
 import placetrade
-from placetrade import errors, rows, trades
+from placetrade import beginnings, counts, ends, errors, roots, rows, trades
+from tests.calls import CALLS
 
 ARGUMENTS = {
-    "alike": ["trade", "one", "other"],
-    "bar": ["trade", "one", "other"],
-    "changes": ["trade", "one", "other"],
-    "least": ["trade", "row"],
-    "steps": ["trade", "row"],
-    "many": ["trade", "row"],
-    "number_of": ["trade", "row"],
-    "numbered": ["trade", "row", "index"],
+    rows: {
+        "alike": ["trade", "one", "other"],
+        "bar": ["trade", "one", "other"],
+        "changes": ["trade", "one", "other"],
+        "least": ["trade", "row"],
+        "steps": ["trade", "row"],
+        "many": ["trade", "row"],
+        "number_of": ["trade", "row"],
+        "numbered": ["trade", "row", "index"],
+    },
+    beginnings: {
+        "rest": ["trade", "one", "row"],
+        "common": ["trade", "one", "other"],
+        "together": ["trade", "one", "other"],
+        "either_way": ["trade", "one", "other"],
+        "turned": ["trade", "row"],
+        "are_turned": ["trade", "one", "other"],
+    },
+    ends: {
+        "rest_ahead": ["trade", "one", "row"],
+        "common_end": ["trade", "one", "other"],
+        "beginnings": ["trade", "row"],
+        "count_beginnings": ["trade", "row", "length"],
+        "crossed": ["trade", "first", "second", "third", "fourth"],
+    },
+    roots: {
+        "parts": ["trade", "row"],
+        "power": ["trade", "row", "many"],
+        "root": ["trade", "row"],
+    },
+    counts: {
+        "groups": ["trade"],
+        "how_many": ["trade", "length"],
+        "how_many_by": ["trade", "length", "modulus"],
+    },
 }
 
 FIELDS = {
@@ -26,16 +55,26 @@ FIELDS = {
 
 
 class Interface(unittest.TestCase):
-    def test_functions_of_rows(self):
-        for name, arguments in ARGUMENTS.items():
-            function = getattr(rows, name)
-            self.assertEqual(function.__module__, "placetrade.rows", name)
-            self.assertEqual(list(inspect.signature(function).parameters), arguments, name)
+    def test_functions(self):
+        for module, functions in ARGUMENTS.items():
+            for name, arguments in functions.items():
+                function = getattr(module, name)
+                self.assertTrue(inspect.isfunction(function), name)
+                self.assertEqual(function.__module__, module.__name__, name)
+                self.assertEqual(list(inspect.signature(function).parameters), arguments, name)
+
+    def test_each_function_has_a_call(self):
+        called = {(call.function.__module__, call.function.__name__): call for call in CALLS}
+        listed = {(module.__name__, name) for module, functions in ARGUMENTS.items() for name in functions}
+        self.assertEqual(set(called), listed)
 
     def test_functions_by_keyword(self):
         told = trades.Trade(pairs=((0, 1),), letters=2)
         self.assertTrue(rows.alike(other=(0, 1), one=(1, 0), trade=told))
-        self.assertEqual(rows.numbered(index=1, row=(0, 1), trade=told), (1, 0))
+        for call in CALLS:
+            arguments = ARGUMENTS[sys.modules[call.function.__module__]][call.function.__name__]
+            told = dict(reversed(list(zip(arguments, call.right, strict=True))))
+            self.assertEqual(call.function(**told), call.answer, call)
 
     def test_trade(self):
         self.assertEqual(trades.Trade.__module__, "placetrade.trades")
