@@ -6,7 +6,7 @@ of any length.
 
 from placetrade.errors import TooLong
 from placetrade.rows import check_row, check_rows, find_bar, first_letters, least_of, without
-from placetrade.trades import bars_of, check_trade
+from placetrade.trades import all_may_change, bars_of, check_trade
 
 MOST_TO_TURN = 8
 
@@ -69,11 +69,6 @@ def together(trade, one, other):
     if not all_may_change(bars, mine, its):
         return None
     return least_of(bars, both + mine + its)
-
-
-def all_may_change(bars, one, other):
-    """Tell whether each letter of one may change places with each of the other."""
-    return all([(bars[letter] >> against) & 1 == 0 for letter in one for against in other])
 
 
 def either_way(trade, one, other):

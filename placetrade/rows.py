@@ -10,11 +10,16 @@ from placetrade.trades import bars_of, check_trade, is_letter, is_whole, may_cha
 MOST_IN_ROW = 20
 
 
+def is_row(letters, value):
+    """Tell whether a value is a row of so many letters."""
+    if not isinstance(value, tuple) or len(value) > MOST_IN_ROW:
+        return False
+    return all([is_letter(letters, letter) for letter in value])
+
+
 def check_row(trade, row):
     """Raise BadRow for what is no row of a trade."""
-    if not isinstance(row, tuple) or len(row) > MOST_IN_ROW:
-        raise BadRow()
-    if not all([is_letter(trade, letter) for letter in row]):
+    if not is_row(trade.letters, row):
         raise BadRow()
 
 

@@ -13,11 +13,16 @@ def is_whole(value, low, high):
     return low <= value <= high
 
 
-def is_pair(value, letters):
+def is_letter(letters, value):
+    """Tell whether a value is one of so many letters."""
+    return is_whole(value, 0, letters - 1)
+
+
+def is_pair(letters, value):
     """Tell whether a value is a tuple (a, b) of letters with a < b."""
     if not isinstance(value, tuple) or len(value) != 2:
         return False
-    if not all([is_whole(letter, 0, letters - 1) for letter in value]):
+    if not all([is_letter(letters, letter) for letter in value]):
         return False
     return value[0] < value[1]
 
@@ -27,7 +32,7 @@ def check_pairs(letters, pairs):
     if not isinstance(pairs, tuple):
         raise BadPairs(None)
     for index, pair in enumerate(pairs):
-        if not is_pair(pair, letters):
+        if not is_pair(letters, pair):
             raise BadPairs(index)
         if index > 0 and pair <= pairs[index - 1]:
             raise BadPairs(index)
@@ -63,11 +68,6 @@ def check_trade(trade):
         raise BadTrade()
 
 
-def is_letter(trade, value):
-    """Tell whether a value is a letter of a trade."""
-    return is_whole(value, 0, trade.letters - 1)
-
-
 def may_change(trade, one, other):
     """Tell whether two letters may change places."""
     return (min(one, other), max(one, other)) in trade.pairs
@@ -86,3 +86,8 @@ def bars_of(trade):
                 bits = bits | (1 << other)
         bars.append(bits)
     return bars
+
+
+def all_may_change(bars, one, other):
+    """Tell whether each letter of one may change places with each of the other."""
+    return all([(bars[letter] >> against) & 1 == 0 for letter in one for against in other])

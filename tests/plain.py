@@ -17,6 +17,11 @@ def all_rows(letters, length):
     return list(product(range(letters), repeat=length))
 
 
+def rows_up_to(letters, longest):
+    """All rows of at most so many letters, shorter ones ahead."""
+    return [row for length in range(longest + 1) for row in all_rows(letters, length)]
+
+
 def change(row, place):
     """The row after a change at a place."""
     return row[:place] + (row[place + 1], row[place]) + row[place + 2:]

@@ -15,15 +15,10 @@ NONE_MAY = Trade(6, ())
 ALL_MAY = plain.all_trades(6)[-1]
 
 
-def rows_up_to(letters, longest):
-    """All rows of at most so many letters, shorter ones ahead."""
-    return [row for length in range(longest + 1) for row in plain.all_rows(letters, length)]
-
-
 class PlainSearch(unittest.TestCase):
     def test_what_rows_begin_with(self):
         for letters, longest in ((1, 4), (2, 4), (3, 3)):
-            rows = rows_up_to(letters, longest)
+            rows = plain.rows_up_to(letters, longest)
             for trade in plain.all_trades(letters):
                 firsts = {row: plain.firsts(trade, row) for row in rows}
                 for row in rows:
@@ -57,9 +52,9 @@ class PlainSearch(unittest.TestCase):
 
     def test_what_begins_with_both(self):
         for letters, longest in ((1, 3), (2, 3), (3, 2)):
-            rows = rows_up_to(letters, longest)
+            rows = plain.rows_up_to(letters, longest)
             for trade in plain.all_trades(letters):
-                longer = [(row, plain.firsts(trade, row)) for row in rows_up_to(letters, 2 * longest)]
+                longer = [(row, plain.firsts(trade, row)) for row in plain.rows_up_to(letters, 2 * longest)]
                 for one in rows:
                     for other in rows:
                         found = [row for row, firsts in longer if one in firsts and other in firsts]
@@ -75,7 +70,7 @@ class PlainSearch(unittest.TestCase):
 
     def test_either_way(self):
         for letters, longest in ((1, 3), (2, 3), (3, 2)):
-            rows = rows_up_to(letters, longest)
+            rows = plain.rows_up_to(letters, longest)
             for trade in plain.all_trades(letters):
                 for one in rows:
                     for other in rows:
@@ -99,7 +94,7 @@ class TurnedBySearch(unittest.TestCase):
     def test_all_short_rows(self):
         for letters, longest in ((1, 5), (2, 5), (3, 4)):
             for trade in plain.all_trades(letters):
-                for row in rows_up_to(letters, longest):
+                for row in plain.rows_up_to(letters, longest):
                     found = self.search(trade, row)
                     expected = plain.unlike(trade, found)
                     self.assertEqual(turned(trade, row), expected, (trade.pairs, row))

@@ -17,15 +17,10 @@ NONE_MAY = Trade(6, ())
 ALL_MAY = plain.all_trades(6)[-1]
 
 
-def rows_up_to(letters, longest):
-    """All rows of at most so many letters, shorter ones ahead."""
-    return [row for length in range(longest + 1) for row in plain.all_rows(letters, length)]
-
-
 class PlainSearch(unittest.TestCase):
     def test_what_rows_end_with(self):
         for letters, longest in ((1, 4), (2, 4), (3, 3)):
-            rows = rows_up_to(letters, longest)
+            rows = plain.rows_up_to(letters, longest)
             for trade in plain.all_trades(letters):
                 lasts = {row: plain.lasts(trade, row) for row in rows}
                 for row in rows:
@@ -61,7 +56,7 @@ class PlainSearch(unittest.TestCase):
     def test_all_beginnings(self):
         for letters, longest in ((1, 5), (2, 5), (3, 4)):
             for trade in plain.all_trades(letters):
-                for row in rows_up_to(letters, longest):
+                for row in plain.rows_up_to(letters, longest):
                     self.hold_beginnings(trade, row)
 
     def test_beginnings_of_random_rows(self):
@@ -101,7 +96,7 @@ class CutBySearch(unittest.TestCase):
 
     def test_all_rows_of_two_letters(self):
         for trade in plain.all_trades(2):
-            for rows in product(rows_up_to(2, 2), repeat=4):
+            for rows in product(plain.rows_up_to(2, 2), repeat=4):
                 self.hold(trade, rows)
 
     def test_all_ways_to_cut(self):

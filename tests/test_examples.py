@@ -1,8 +1,12 @@
 """The examples of the document's interface, word for word."""
 
+import contextlib
 import doctest
+import io
 import pathlib
 import unittest
+
+from placetrade.errors import TradeError
 
 ROWS = """
 >>> from placetrade.rows import alike, bar, changes, least, many, number_of, numbered, steps
@@ -47,34 +51,95 @@ COUNTS = """
 >>> [groups(told), how_many(told, 2), how_many(told, 3), how_many(Trade(1, ()), 500), how_many_by(told, 10 ** 30, 7)]
 [[(), (0,), (0, 1), (1,), (1, 2), (2,)], 7, 15, 1, 3]
 """
+LISTING = """
+>>> from placetrade.listing import how_many_with, least_with, next_least, numbered_least, place_of
+>>> from placetrade.trades import Trade
+>>> told = Trade(3, ((0, 1), (1, 2)))
+>>> [how_many_with(told, (1, 1, 1)), how_many_with(told, (2, 0, 2)), least_with(told, (1, 2, 1)), numbered_least(told, 2, 3), place_of(told, (2, 1))]
+[2, 6, (0, 1, 1, 2), (1, 1), 4]
+>>> [numbered_least(told, 60, 0) == (0,) * 60, next_least(told, (0, 2)), next_least(told, (2, 2))]
+[True, (1, 1), None]
+"""
+KNOWN = """
+>>> from placetrade.known import trades_by
+>>> [trade.pairs for trade in trades_by(3, (((0, 1, 2), (1, 0, 2), "alike"), ((1, 2), (2, 1), "unlike")))]
+[((0, 1),), ((0, 1), (0, 2))]
+"""
+LINES = """
+>>> from placetrade.lines import Line
+>>> from placetrade.trades import Trade
+>>> line = Line(Trade(3, ((0, 1), (1, 2))))
+>>> [line.add(1), line.add(0), line.swap(0), line.row, line.add(2), line.least, line.undo(), line.undo(), line.row, len(line)]
+[1, 2, (0, 1), (0, 1), 3, (0, 1, 2), True, True, (1, 0), 2]
+>>> line.swap(1)
+raises BadPlace()
+"""
+TEXTS = """
+>>> from placetrade.texts import read_row, write_row
+>>> from placetrade.trades import Trade
+>>> told = Trade(3, ((0, 1), (1, 2)))
+>>> [write_row(told, (1, 2, 0)), read_row(told, "(bc)(a)"), write_row(told, ())]
+['(bc)(a)', (1, 2, 0), '']
+>>> read_row(told, "(a)(b)")
+raises InvalidText(place=4)
+"""
+
+
+def told_by(source, names):
+    """What is shown of a row of an example: its value, or the error that it raises."""
+    shown = io.StringIO()
+    try:
+        with contextlib.redirect_stdout(shown):
+            exec(compile(source, "example", "single"), names)
+    except TradeError as error:
+        fields = ", ".join(f"{name}={worth!r}" for name, worth in vars(error).items())
+        return f"raises {type(error).__name__}({fields})\n"
+    return shown.getvalue()
 
 
 class Examples(unittest.TestCase):
-    def run_text(self, name, text):
-        test = doctest.DocTestParser().get_doctest(text, {}, name, None, None)
+    def run_text(self, text):
+        names = {}
+        examples = doctest.DocTestParser().get_examples(text)
+        self.assertTrue(examples)
+        for example in examples:
+            self.assertEqual(told_by(example.source, names), example.want, example.source)
+
+    def test_rows(self):
+        self.run_text(ROWS)
+
+    def test_beginnings(self):
+        self.run_text(BEGINNINGS)
+
+    def test_ends(self):
+        self.run_text(ENDS)
+
+    def test_roots(self):
+        self.run_text(ROOTS)
+
+    def test_counts(self):
+        self.run_text(COUNTS)
+
+    def test_listing(self):
+        self.run_text(LISTING)
+
+    def test_known(self):
+        self.run_text(KNOWN)
+
+    def test_lines(self):
+        self.run_text(LINES)
+
+    def test_texts(self):
+        self.run_text(TEXTS)
+
+    def test_readme(self):
+        readme = pathlib.Path(__file__).parent.parent / "README.md"
+        text = readme.read_text().replace("```", "")
+        test = doctest.DocTestParser().get_doctest(text, {}, "README.md", None, None)
         told = []
         result = doctest.DocTestRunner(verbose=False).run(test, out=told.append)
         self.assertGreater(result.attempted, 0)
         self.assertEqual(result.failed, 0, "".join(told))
-
-    def test_rows(self):
-        self.run_text("placetrade/rows.py", ROWS)
-
-    def test_beginnings(self):
-        self.run_text("placetrade/beginnings.py", BEGINNINGS)
-
-    def test_ends(self):
-        self.run_text("placetrade/ends.py", ENDS)
-
-    def test_roots(self):
-        self.run_text("placetrade/roots.py", ROOTS)
-
-    def test_counts(self):
-        self.run_text("placetrade/counts.py", COUNTS)
-
-    def test_readme(self):
-        readme = pathlib.Path(__file__).parent.parent / "README.md"
-        self.run_text("README.md", readme.read_text().replace("```", ""))
 
 
 if __name__ == "__main__":

@@ -6,7 +6,7 @@ import sys
 import unittest
 
 import placetrade
-from placetrade import beginnings, counts, ends, errors, roots, rows, trades
+from placetrade import beginnings, counts, ends, errors, known, lines, listing, roots, rows, texts, trades
 from tests.calls import CALLS
 
 ARGUMENTS = {
@@ -40,11 +40,33 @@ ARGUMENTS = {
         "power": ["trade", "row", "many"],
         "root": ["trade", "row"],
     },
+    listing: {
+        "how_many_with": ["trade", "counts"],
+        "least_with": ["trade", "counts"],
+        "numbered_least": ["trade", "length", "index"],
+        "place_of": ["trade", "row"],
+        "next_least": ["trade", "row"],
+    },
+    known: {
+        "trades_by": ["letters", "facts"],
+    },
+    texts: {
+        "write_row": ["trade", "row"],
+        "read_row": ["trade", "text"],
+    },
     counts: {
         "groups": ["trade"],
         "how_many": ["trade", "length"],
         "how_many_by": ["trade", "length", "modulus"],
     },
+}
+
+LINE = {
+    "add": ["self", "letter"],
+    "swap": ["self", "place"],
+    "undo": ["self"],
+    "copy": ["self"],
+    "__len__": ["self"],
 }
 
 FIELDS = {
@@ -82,6 +104,19 @@ class Interface(unittest.TestCase):
         for name in ("letters", "pairs"):
             self.assertIsInstance(vars(trades.Trade)[name], property)
         self.assertIn("__eq__", vars(trades.Trade))
+
+    def test_line(self):
+        self.assertEqual(lines.Line.__module__, "placetrade.lines")
+        self.assertEqual(list(inspect.signature(lines.Line).parameters), ["trade"])
+        for name in ("row", "least"):
+            self.assertIsInstance(vars(lines.Line)[name], property)
+        for name, arguments in LINE.items():
+            self.assertEqual(list(inspect.signature(vars(lines.Line)[name]).parameters), arguments, name)
+
+    def test_line_by_keyword(self):
+        line = lines.Line(trade=trades.Trade(2, ((0, 1),)))
+        self.assertEqual([line.add(letter=1), line.add(letter=0), line.swap(place=0)], [1, 2, (0, 1)])
+        self.assertEqual((line.row, line.least, len(line)), ((0, 1), (0, 1), 2))
 
     def test_base_of_errors(self):
         self.assertEqual(errors.TradeError.__bases__, (ValueError,))

@@ -21,11 +21,6 @@ THREE_PARTS = Trade(6, tuple(
 ))
 
 
-def rows_up_to(letters, longest):
-    """All rows of at most so many letters, shorter ones ahead."""
-    return [row for length in range(longest + 1) for row in plain.all_rows(letters, length)]
-
-
 def hanging(trade, row):
     """The least rows of what hangs together in a row, by the document's words."""
     letters = sorted(set(row))
@@ -41,7 +36,7 @@ class PlainSearch(unittest.TestCase):
     def test_parts_of_short_rows(self):
         for letters, longest in ((1, 4), (2, 5), (3, 4)):
             for trade in plain.all_trades(letters):
-                for row in rows_up_to(letters, longest):
+                for row in plain.rows_up_to(letters, longest):
                     self.hold_parts(trade, row)
 
     def test_parts_of_random_rows(self):
@@ -59,14 +54,14 @@ class PlainSearch(unittest.TestCase):
     def test_powers(self):
         for letters, longest in ((1, 6), (2, 6), (3, 5)):
             for trade in plain.all_trades(letters):
-                for row in rows_up_to(letters, longest):
+                for row in plain.rows_up_to(letters, longest):
                     for many in range(longest // max(len(row), 1) + 1):
                         self.assertEqual(power(trade, row, many), plain.least(trade, row * many))
 
     def test_roots(self):
         for letters, longest in ((1, 6), (2, 6), (3, 4)):
             for trade in plain.all_trades(letters):
-                for row in rows_up_to(letters, longest):
+                for row in plain.rows_up_to(letters, longest):
                     self.hold_root(trade, row)
 
     def test_roots_of_powers(self):
@@ -93,7 +88,7 @@ class PlainSearch(unittest.TestCase):
     def test_which_rows_may_change_places_as_a_whole(self):
         for letters, longest in ((1, 3), (2, 4), (3, 3)):
             for trade in plain.all_trades(letters):
-                whole = [row for row in rows_up_to(letters, longest) if len(parts(trade, row)) == 1]
+                whole = [row for row in plain.rows_up_to(letters, longest) if len(parts(trade, row)) == 1]
                 for one, other in product(whole, repeat=2):
                     same = root(trade, one)[0] == root(trade, other)[0]
                     expected = same or plain.may_all(trade, one, other)

@@ -1,7 +1,16 @@
 """Values of every kind that the document names as "any value"."""
 
 from placetrade import errors
+from placetrade.lines import Line
 from placetrade.trades import Trade
+
+
+def line_of(trade, row):
+    """A line that stands as a row."""
+    line = Line(trade)
+    for letter in row:
+        line.add(letter)
+    return line
 
 
 def any_values():
@@ -13,8 +22,14 @@ def any_values():
         [], [0], [0, 1], [(0, 1)], [[]],
         {}, {0: 1}, {"a": (0,)}, {(0, 1): [2]},
         Trade(2, ()), Trade(3, ((0, 1), (1, 2))), (Trade(1, ()),),
+        Line(Trade(2, ())), line_of(Trade(3, ((0, 1), (1, 2))), (1, 0)), (Line(Trade(1, ())),),
         errors.BadTrade(), errors.BadPairs(0), errors.InvalidText(3), (errors.BadRow(),),
     ]
+
+
+def any_texts():
+    """One list of texts, for what takes any string and nothing else."""
+    return [value for value in any_values() if isinstance(value, str)]
 
 
 def is_integer(value):
@@ -39,3 +54,12 @@ def raised(called, *given):
     except Exception as error:
         return error
     return None
+
+
+def history(line):
+    """All rows that a line stood as and can still go back to, the last one first."""
+    back = line.copy()
+    rows = [back.row]
+    while back.undo():
+        rows.append(back.row)
+    return rows
